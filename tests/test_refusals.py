@@ -1,0 +1,73 @@
+"""Wrong inputs of both heuristics: each is answered by the code of the first error alone."""
+
+import unittest
+
+from loading_checks import HEURISTICS
+
+GREATEST = 4294967295
+
+
+class RefusalTest(unittest.TestCase):
+    def check(self, capacity, lengths, expected):
+        for heuristic in HEURISTICS:
+            with self.subTest(heuristic.__name__, capacity=capacity, lengths=lengths):
+                self.assertEqual(heuristic(capacity, lengths), expected)
+
+    def test_capacity_out_of_range(self):
+        for capacity in (0, 101, 102, 200, 65536, GREATEST):
+            for lengths in ([], [1], [5, 4, 3, 6, 2], [1] * 7):
+                self.check(capacity, lengths, [-22])
+
+    def test_too_many_pallets(self):
+        for count in range(8, 13):
+            self.check(100, [1] * count, [-22])
+            self.check(10, [10] * count, [-22])
+
+    def test_length_of_0(self):
+        self.check(10, [0], [-22])
+        self.check(10, [0, 5, 4], [-22])
+        self.check(10, [5, 0, 4], [-22])
+        self.check(10, [5, 4, 0], [-22])
+        self.check(10, [1, 1, 1, 1, 1, 1, 0], [-22])
+
+    def test_length_above_100(self):
+        for length in (101, 102, 65536, GREATEST):
+            self.check(100, [length], [-22])
+            self.check(100, [length, 5, 4], [-22])
+            self.check(100, [5, length, 4], [-22])
+            self.check(100, [5, 4, length], [-22])
+
+    def test_pallet_longer_than_the_capacity(self):
+        self.check(5, [6], [-33])
+        self.check(1, [2], [-33])
+        self.check(1, [100], [-33])
+        self.check(99, [100], [-33])
+        self.check(5, [6, 1, 1], [-33])
+        self.check(5, [1, 6, 1], [-33])
+        self.check(5, [1, 1, 6], [-33])
+        self.check(5, [5, 5, 5, 5, 5, 5, 6], [-33])
+
+    def test_out_of_range_comes_before_too_long(self):
+        self.check(0, [1], [-22])
+        self.check(0, [100], [-22])
+        self.check(5, [6, 0], [-22])
+        self.check(5, [0, 6], [-22])
+        self.check(5, [6, 101], [-22])
+        self.check(5, [101], [-22])
+        self.check(5, [GREATEST], [-22])
+        self.check(5, [6] * 8, [-22])
+        self.check(5, [6] * 12, [-22])
+
+    def test_all_out_of_range_at_once(self):
+        self.check(0, [0] * 12, [-22])
+        self.check(GREATEST, [GREATEST] * 12, [-22])
+
+    def test_limits_themselves_are_allowed(self):
+        self.check(1, [1], [1, 0])
+        self.check(100, [100], [1, 0])
+        self.check(100, [1], [1, 0])
+        self.check(100, [100] * 7, [7, 0, 1, 2, 3, 4, 5, 6])
+
+
+if __name__ == "__main__":
+    unittest.main()

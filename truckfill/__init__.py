@@ -1,0 +1,1 @@
+"""Truck loading planner: pallets of given lengths on trucks of equal length."""
