@@ -1,10 +1,15 @@
 """What the test files share: inputs, and what the document asks of an assignment."""
 
+from fractions import Fraction
+from functools import cache
 from itertools import product
+from math import ceil
 
-from truckfill.loading import first_fit, first_fit_decreasing
+from truckfill.loading import first_fit, first_fit_decreasing, lower_bounds, minimal_assignment
 
 HEURISTICS = (first_fit, first_fit_decreasing)
+ASSIGNING = HEURISTICS + (minimal_assignment,)
+FUNCTIONS = ASSIGNING + (lower_bounds,)
 
 
 def index_order(lengths):
@@ -44,6 +49,56 @@ def truck_loads(lengths, assignment):
     for pallet, truck in enumerate(assignment):
         loads[truck] += lengths[pallet]
     return loads
+
+
+@cache
+def canonical_assignments(count):
+    """Every canonical assignment of so many pallets, sifted out of more by the document's words."""
+    found = []
+    for assignment in product(*(range(pallet + 1) for pallet in range(count))):
+        if all(truck <= max(assignment[:pallet], default=-1) + 1 for pallet, truck in enumerate(assignment)):
+            found.append(list(assignment))
+    return found
+
+
+def is_feasible_assignment(capacity, lengths, assignment):
+    return max(truck_loads(lengths, assignment), default=0) <= capacity
+
+
+def searched_minimal_assignment(capacity, lengths):
+    """Search all canonical assignments: those with the fewest trucks, of them the first."""
+    feasible = [
+        assignment
+        for assignment in canonical_assignments(len(lengths))
+        if is_feasible_assignment(capacity, lengths, assignment)
+    ]
+    fewest = min(number_of_trucks(assignment) for assignment in feasible)
+    first = min(assignment for assignment in feasible if number_of_trucks(assignment) == fewest)
+    return [fewest] + first
+
+
+def number_of_trucks(assignment):
+    return max(assignment) + 1 if assignment else 0
+
+
+def reckoned_threshold_bound(capacity, threshold, lengths):
+    """Put each pallet into its class, then reckon with fractions as the document says."""
+    large, medium, small = [], [], []
+    for length in lengths:
+        if length > capacity - threshold:
+            large.append(length)
+        elif length > Fraction(capacity, 2):
+            medium.append(length)
+        elif length >= threshold:
+            small.append(length)
+    space = sum(capacity - length for length in medium)
+    return len(large) + len(medium) + ceil(Fraction(max(0, sum(small) - space), capacity))
+
+
+def reckoned_lower_bounds(capacity, lengths):
+    thresholds = [threshold for threshold in range(capacity + 1) if 2 * threshold <= capacity]
+    bounds = [reckoned_threshold_bound(capacity, threshold, lengths) for threshold in thresholds]
+    return [ceil(Fraction(sum(lengths), capacity)), max(bounds)]
 
 
 def fewest_trucks(capacity, lengths, loads=()):

@@ -8,7 +8,8 @@ import pathlib
 import unittest
 
 import truckfill
-from loading_checks import HEURISTICS, WatchedList, many_inputs
+from loading_checks import ASSIGNING, FUNCTIONS, WatchedList, many_inputs
+from truckfill.loading import lower_bounds
 
 REQUESTS = (
     (10, [5, 4, 3, 6, 2]),
@@ -24,68 +25,77 @@ REQUESTS = (
 
 class InterfaceTest(unittest.TestCase):
     def test_arguments_by_their_names(self):
-        for heuristic in HEURISTICS:
-            self.assertEqual(list(inspect.signature(heuristic).parameters), ["capacity", "lengths"])
-            self.assertEqual(heuristic(lengths=[4, 7], capacity=10), heuristic(10, [4, 7]))
+        for function in FUNCTIONS:
+            self.assertEqual(list(inspect.signature(function).parameters), ["capacity", "lengths"])
+            self.assertEqual(function(lengths=[4, 7], capacity=10), function(10, [4, 7]))
 
     def test_answers_are_lists_of_whole_numbers(self):
-        for heuristic in HEURISTICS:
+        for function in FUNCTIONS:
             for capacity, lengths in REQUESTS:
-                answer = heuristic(capacity, lengths)
+                answer = function(capacity, lengths)
                 self.assertIs(type(answer), list)
                 self.assertEqual({type(number) for number in answer}, {int})
 
     def test_only_a_lone_error_code_is_below_0(self):
-        for heuristic in HEURISTICS:
+        for function in FUNCTIONS:
             for capacity, lengths in REQUESTS:
-                answer = heuristic(capacity, lengths)
+                answer = function(capacity, lengths)
                 if answer[0] < 0:
                     self.assertEqual(len(answer), 1)
                 else:
                     self.assertGreaterEqual(min(answer), 0)
+
+    def test_as_many_numbers_as_the_interface_tells(self):
+        for capacity, lengths in REQUESTS:
+            for function in ASSIGNING:
+                answer = function(capacity, lengths)
+                if answer[0] >= 0:
                     self.assertEqual(len(answer), 1 + len(lengths))
+            answer = lower_bounds(capacity, lengths)
+            if answer[0] >= 0:
+                self.assertEqual(len(answer), 2)
 
     def test_the_list_handed_in_is_afterwards_as_it_was(self):
-        for heuristic in HEURISTICS:
+        for function in FUNCTIONS:
             for capacity, lengths in list(many_inputs()) + list(REQUESTS):
                 handed_in = list(lengths)
-                heuristic(capacity, handed_in)
+                function(capacity, handed_in)
                 self.assertEqual(handed_in, lengths)
 
     def test_the_list_handed_in_is_not_changed_for_a_while_either(self):
-        for heuristic in HEURISTICS:
+        for function in FUNCTIONS:
             for capacity, lengths in REQUESTS:
-                heuristic(capacity, WatchedList(lengths))
+                function(capacity, WatchedList(lengths))
 
     def test_two_calls_answer_the_same(self):
-        for heuristic in HEURISTICS:
+        for function in FUNCTIONS:
             for capacity, lengths in list(many_inputs()) + list(REQUESTS):
-                self.assertEqual(heuristic(capacity, lengths), heuristic(capacity, lengths))
+                self.assertEqual(function(capacity, lengths), function(capacity, lengths))
 
     def test_nothing_is_kept_from_one_call_to_the_next(self):
-        for heuristic in HEURISTICS:
-            alone = [heuristic(capacity, lengths) for capacity, lengths in REQUESTS]
-            for other in HEURISTICS:
+        for function in FUNCTIONS:
+            alone = [function(capacity, lengths) for capacity, lengths in REQUESTS]
+            for other in FUNCTIONS:
                 for capacity, lengths in REQUESTS:
                     other(capacity, lengths)
-                    again = [heuristic(*request) for request in REQUESTS]
+                    again = [function(*request) for request in REQUESTS]
                     self.assertEqual(again, alone)
 
     def test_an_answer_that_is_changed_does_not_change_the_next(self):
-        for heuristic in HEURISTICS:
+        for function in FUNCTIONS:
             for capacity, lengths in REQUESTS:
-                first = heuristic(capacity, lengths)
+                first = function(capacity, lengths)
                 kept = list(first)
                 first.append(7)
                 first[0] = 99
-                self.assertEqual(heuristic(capacity, lengths), kept)
+                self.assertEqual(function(capacity, lengths), kept)
 
     def test_prints_nothing(self):
         printed = io.StringIO()
         with contextlib.redirect_stdout(printed), contextlib.redirect_stderr(printed):
-            for heuristic in HEURISTICS:
+            for function in FUNCTIONS:
                 for capacity, lengths in REQUESTS:
-                    heuristic(capacity, lengths)
+                    function(capacity, lengths)
         self.assertEqual(printed.getvalue(), "")
 
     def test_imports_and_reads_nothing_from_outside(self):

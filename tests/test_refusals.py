@@ -1,17 +1,18 @@
-"""Wrong inputs of both heuristics: each is answered by the code of the first error alone."""
+"""Wrong inputs of the functions: each is answered by the code of the first error alone."""
 
 import unittest
 
-from loading_checks import HEURISTICS
+from loading_checks import ASSIGNING, FUNCTIONS
+from truckfill.loading import lower_bounds
 
 GREATEST = 4294967295
 
 
 class RefusalTest(unittest.TestCase):
-    def check(self, capacity, lengths, expected):
-        for heuristic in HEURISTICS:
-            with self.subTest(heuristic.__name__, capacity=capacity, lengths=lengths):
-                self.assertEqual(heuristic(capacity, lengths), expected)
+    def check(self, capacity, lengths, expected, functions=FUNCTIONS):
+        for function in functions:
+            with self.subTest(function.__name__, capacity=capacity, lengths=lengths):
+                self.assertEqual(function(capacity, lengths), expected)
 
     def test_capacity_out_of_range(self):
         for capacity in (0, 101, 102, 200, 65536, GREATEST):
@@ -63,10 +64,9 @@ class RefusalTest(unittest.TestCase):
         self.check(GREATEST, [GREATEST] * 12, [-22])
 
     def test_limits_themselves_are_allowed(self):
-        self.check(1, [1], [1, 0])
-        self.check(100, [100], [1, 0])
-        self.check(100, [1], [1, 0])
-        self.check(100, [100] * 7, [7, 0, 1, 2, 3, 4, 5, 6])
+        for capacity, lengths, trucks in ((1, [1], 1), (100, [100], 1), (100, [1], 1), (100, [100] * 7, 7)):
+            self.check(capacity, lengths, [trucks] + list(range(trucks)), ASSIGNING)
+            self.check(capacity, lengths, [trucks, trucks], [lower_bounds])
 
 
 if __name__ == "__main__":

@@ -1,17 +1,52 @@
-"""Requirements 3 and 4: what the document asks of the heuristics over all inputs."""
+"""Requirements 1 to 5: what the document asks over all inputs."""
 
 import unittest
+from itertools import product
 
-from loading_checks import HEURISTICS, fewest_trucks, many_inputs, truck_loads
-from truckfill.loading import first_fit, first_fit_decreasing
+from loading_checks import (
+    ASSIGNING,
+    HEURISTICS,
+    fewest_trucks,
+    is_feasible_assignment,
+    long_inputs,
+    many_inputs,
+    number_of_trucks,
+    short_inputs,
+)
+from truckfill.loading import first_fit, first_fit_decreasing, lower_bounds, minimal_assignment
 
 
 class RequirementTest(unittest.TestCase):
+    def test_requirement_1_no_assignment_that_uses_each_of_its_trucks_has_fewer(self):
+        for capacity, lengths in short_inputs():
+            fewest = minimal_assignment(capacity, lengths)[0]
+            for assignment in product(range(len(lengths)), repeat=len(lengths)):
+                if len(set(assignment)) == number_of_trucks(assignment) < fewest:
+                    self.assertFalse(
+                        is_feasible_assignment(capacity, lengths, assignment), (capacity, lengths, assignment)
+                    )
+
+    def test_requirement_1_fewest_trucks(self):
+        for capacity, lengths in many_inputs():
+            trucks = minimal_assignment(capacity, lengths)[0]
+            self.assertEqual(trucks, fewest_trucks(capacity, lengths), (capacity, lengths))
+
+    def test_requirement_2_the_bounds_the_fewest_trucks_and_the_heuristics(self):
+        for capacity, lengths in many_inputs():
+            where = (capacity, lengths)
+            length_bound, best_bound = lower_bounds(capacity, lengths)
+            fewest = fewest_trucks(capacity, lengths)
+            self.assertLessEqual(length_bound, best_bound, where)
+            self.assertLessEqual(best_bound, fewest, where)
+            for heuristic in HEURISTICS:
+                self.assertLessEqual(fewest, heuristic(capacity, lengths)[0], where)
+            self.assertEqual(fewest, minimal_assignment(capacity, lengths)[0], where)
+
     def test_requirement_3_first_fit_decreasing_against_the_fewest_trucks(self):
         for capacity, lengths in many_inputs():
             trucks = first_fit_decreasing(capacity, lengths)[0]
-            fewest = fewest_trucks(capacity, lengths)
-            self.assertLessEqual(2 * trucks, 3 * fewest, (capacity, lengths))
+            self.assertLessEqual(2 * trucks, 3 * fewest_trucks(capacity, lengths), (capacity, lengths))
+            self.assertLessEqual(2 * trucks, 3 * minimal_assignment(capacity, lengths)[0], (capacity, lengths))
 
     def test_requirement_3_first_fit_with_at_least_two_trucks(self):
         for capacity, lengths in many_inputs():
@@ -19,15 +54,23 @@ class RequirementTest(unittest.TestCase):
             if trucks >= 2:
                 self.assertLess(capacity * trucks, 2 * sum(lengths), (capacity, lengths))
 
-    def test_requirement_4_both_are_feasible(self):
-        for heuristic in HEURISTICS:
+    def test_requirements_1_and_4_all_assignments_are_feasible(self):
+        for function in ASSIGNING:
             for capacity, lengths in many_inputs():
-                trucks, *assignment = heuristic(capacity, lengths)
-                loads = truck_loads(lengths, assignment)
-                where = (heuristic.__name__, capacity, lengths)
+                trucks, *assignment = function(capacity, lengths)
+                where = (function.__name__, capacity, lengths)
                 self.assertEqual(len(assignment), len(lengths), where)
-                self.assertEqual(trucks, len(loads), where)
-                self.assertLessEqual(max(loads, default=0), capacity, where)
+                self.assertEqual(trucks, number_of_trucks(assignment), where)
+                self.assertTrue(is_feasible_assignment(capacity, lengths, assignment), where)
+
+    def test_requirement_5_a_greater_capacity_never_needs_more_trucks(self):
+        # Every 30th of the long inputs: each is asked with up to 100 capacities.
+        for capacity, lengths in list(short_inputs()) + list(long_inputs())[::30]:
+            fewest = minimal_assignment(capacity, lengths)[0]
+            for greater in range(capacity + 1, min(100, sum(lengths) + 1) + 1):
+                trucks = minimal_assignment(greater, lengths)[0]
+                self.assertLessEqual(trucks, fewest, (greater, lengths))
+                fewest = trucks
 
 
 if __name__ == "__main__":

@@ -1,4 +1,4 @@
-"""Loadings of pallets onto trucks of equal length, by the first-fit heuristics."""
+"""Loadings of pallets onto trucks of equal length, and lower bounds on the number of trucks."""
 
 MAX_CAPACITY = 100
 MAX_LENGTH = 100
@@ -23,6 +23,25 @@ def first_fit_decreasing(capacity, lengths):
     if error != NO_ERROR:
         return [error]
     return load_in_order(capacity, lengths, decreasing_order(lengths))
+
+
+def minimal_assignment(capacity, lengths):
+    """Answer the fewest trucks and the first assignment with so few, or an error code alone."""
+    error = loading_error(capacity, lengths)
+    if error != NO_ERROR:
+        return [error]
+    # The number of trucks stands first, so the least list has the fewest trucks
+    # and, of those with so few, the lexicographically first assignment.
+    return min([[len(loads)] + assignment for loads, assignment in feasible_loadings(capacity, lengths)])
+
+
+def lower_bounds(capacity, lengths):
+    """Answer the length bound and the greatest threshold bound, or an error code alone."""
+    error = loading_error(capacity, lengths)
+    if error != NO_ERROR:
+        return [error]
+    bounds = [bound_at_threshold(capacity, threshold, lengths) for threshold in range(capacity // 2 + 1)]
+    return [trucks_for_length(sum(lengths), capacity), max(bounds)]
 
 
 def loading_error(capacity, lengths):
@@ -62,17 +81,49 @@ def load_in_order(capacity, lengths, order):
     loads = []
     assignment = [0] * len(lengths)
     for pallet in order:
-        truck = first_truck_with_space(capacity, loads, lengths[pallet])
-        if truck == len(loads):
-            loads.append(0)
-        loads[truck] = loads[truck] + lengths[pallet]
+        # The first of these trucks is where first fit puts the pallet.
+        truck = trucks_with_space(capacity, loads, lengths[pallet])[0]
+        loads = loads_with_pallet(loads, truck, lengths[pallet])
         assignment[pallet] = truck
     return [len(loads)] + assignment
 
 
-def first_truck_with_space(capacity, loads, length):
-    """Answer the first truck on which the pallet fits, or the next new one."""
-    for truck, load in enumerate(loads):
-        if load + length <= capacity:
-            return truck
-    return len(loads)
+def feasible_loadings(capacity, lengths):
+    """Answer the loads and the assignment of every feasible canonical assignment."""
+    loadings = [([], [])]
+    for length in lengths:
+        longer = []
+        for loads, assignment in loadings:
+            for truck in trucks_with_space(capacity, loads, length):
+                longer.append((loads_with_pallet(loads, truck, length), assignment + [truck]))
+        loadings = longer
+    return loadings
+
+
+def trucks_with_space(capacity, loads, length):
+    """Answer the trucks on which the pallet fits, in order; the last is the next new one."""
+    trucks = [truck for truck, load in enumerate(loads) if load + length <= capacity]
+    return trucks + [len(loads)]
+
+
+def loads_with_pallet(loads, truck, length):
+    """Answer a copy of the loads with the pallet on the truck, which may be the next new one."""
+    fuller = list(loads)
+    if truck == len(fuller):
+        fuller.append(0)
+    fuller[truck] = fuller[truck] + length
+    return fuller
+
+
+def bound_at_threshold(capacity, threshold, lengths):
+    """Answer the threshold bound, for a threshold of at most half the capacity."""
+    large = [length for length in lengths if length > capacity - threshold]
+    medium = [length for length in lengths if length <= capacity - threshold and 2 * length > capacity]
+    small = [length for length in lengths if threshold <= length and 2 * length <= capacity]
+    space = len(medium) * capacity - sum(medium)
+    return len(large) + len(medium) + trucks_for_length(max(0, sum(small) - space), capacity)
+
+
+def trucks_for_length(length, capacity):
+    """Answer how many trucks the length would fill if it could be cut: the quotient, rounded up."""
+    return (length + capacity - 1) // capacity
