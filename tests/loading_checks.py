@@ -5,11 +5,38 @@ from functools import cache
 from itertools import product
 from math import ceil
 
-from truckfill.loading import first_fit, first_fit_decreasing, lower_bounds, minimal_assignment
+from truckfill.loading import (
+    first_fit,
+    first_fit_decreasing,
+    is_feasible,
+    lower_bounds,
+    minimal_assignment,
+    threshold_bound,
+)
+
+GREATEST = 4294967295
 
 HEURISTICS = (first_fit, first_fit_decreasing)
 ASSIGNING = HEURISTICS + (minimal_assignment,)
-FUNCTIONS = ASSIGNING + (lower_bounds,)
+PARAMETERS = {
+    first_fit: ["capacity", "lengths"],
+    first_fit_decreasing: ["capacity", "lengths"],
+    minimal_assignment: ["capacity", "lengths"],
+    lower_bounds: ["capacity", "lengths"],
+    threshold_bound: ["capacity", "threshold", "lengths"],
+    is_feasible: ["capacity", "lengths", "assignment"],
+}
+
+
+def calls_with(capacity, lengths):
+    """Calls of every function with these: the function and its arguments, allowed ones and others."""
+    for function in ASSIGNING + (lower_bounds,):
+        yield function, (capacity, lengths)
+    for threshold in (0, capacity // 2, capacity // 2 + 1, GREATEST):
+        yield threshold_bound, (capacity, threshold, lengths)
+    count = len(lengths)
+    for assignment in (index_order(lengths), [0] * count, [99] * count, [100] * count, [0] * (count + 1), []):
+        yield is_feasible, (capacity, lengths, assignment[:12])
 
 
 def index_order(lengths):
@@ -114,6 +141,14 @@ def fewest_trucks(capacity, lengths, loads=()):
     return min(found)
 
 
+def scattered_numbers():
+    """Numbers from 0 to 32767 without a pattern, the same in each run."""
+    state = 1
+    while True:
+        state = (state * 1103515245 + 12345) % 2147483648
+        yield state >> 16
+
+
 def short_inputs():
     """Every input with a capacity of at most 5 and at most 4 pallets, each of which fits."""
     for capacity in range(1, 6):
@@ -124,15 +159,11 @@ def short_inputs():
 
 def long_inputs():
     """Lists of 5 to 7 pallets that fit, scattered over all capacities, the same in each run."""
-    state = 1
+    numbers = scattered_numbers()
     for capacity in range(1, 101):
         for count in (5, 6, 7):
             for longest in (capacity, capacity * 2 // 3, capacity // 2, capacity // 3):
-                lengths = []
-                for _ in range(count):
-                    state = (state * 1103515245 + 12345) % 2147483648
-                    lengths.append(1 + (state >> 16) % max(1, longest))
-                yield capacity, lengths
+                yield capacity, [1 + next(numbers) % max(1, longest) for _ in range(count)]
 
 
 def many_inputs():

@@ -2,17 +2,16 @@
 
 import unittest
 
-from loading_checks import ASSIGNING, FUNCTIONS
-from truckfill.loading import lower_bounds
-
-GREATEST = 4294967295
+from loading_checks import ASSIGNING, GREATEST, calls_with
+from truckfill.loading import is_feasible, lower_bounds, threshold_bound
 
 
 class RefusalTest(unittest.TestCase):
-    def check(self, capacity, lengths, expected, functions=FUNCTIONS):
-        for function in functions:
-            with self.subTest(function.__name__, capacity=capacity, lengths=lengths):
-                self.assertEqual(function(capacity, lengths), expected)
+    def check(self, capacity, lengths, expected):
+        """Check the answer of every function, whatever its other arguments."""
+        for function, arguments in calls_with(capacity, lengths):
+            with self.subTest(function.__name__, arguments=arguments):
+                self.assertEqual(function(*arguments), expected)
 
     def test_capacity_out_of_range(self):
         for capacity in (0, 101, 102, 200, 65536, GREATEST):
@@ -65,8 +64,11 @@ class RefusalTest(unittest.TestCase):
 
     def test_limits_themselves_are_allowed(self):
         for capacity, lengths, trucks in ((1, [1], 1), (100, [100], 1), (100, [1], 1), (100, [100] * 7, 7)):
-            self.check(capacity, lengths, [trucks] + list(range(trucks)), ASSIGNING)
-            self.check(capacity, lengths, [trucks, trucks], [lower_bounds])
+            for function in ASSIGNING:
+                self.assertEqual(function(capacity, lengths), [trucks] + list(range(trucks)))
+            self.assertEqual(lower_bounds(capacity, lengths), [trucks, trucks])
+            self.assertEqual(threshold_bound(capacity, 0, lengths), [trucks])
+            self.assertEqual(is_feasible(capacity, lengths, list(range(trucks))), [1])
 
 
 if __name__ == "__main__":

@@ -13,7 +13,14 @@ from loading_checks import (
     number_of_trucks,
     short_inputs,
 )
-from truckfill.loading import first_fit, first_fit_decreasing, lower_bounds, minimal_assignment
+from truckfill.loading import (
+    first_fit,
+    first_fit_decreasing,
+    is_feasible,
+    lower_bounds,
+    minimal_assignment,
+    threshold_bound,
+)
 
 
 class RequirementTest(unittest.TestCase):
@@ -22,9 +29,9 @@ class RequirementTest(unittest.TestCase):
             fewest = minimal_assignment(capacity, lengths)[0]
             for assignment in product(range(len(lengths)), repeat=len(lengths)):
                 if len(set(assignment)) == number_of_trucks(assignment) < fewest:
-                    self.assertFalse(
-                        is_feasible_assignment(capacity, lengths, assignment), (capacity, lengths, assignment)
-                    )
+                    where = (capacity, lengths, assignment)
+                    self.assertFalse(is_feasible_assignment(*where), where)
+                    self.assertEqual(is_feasible(capacity, lengths, list(assignment)), [0], where)
 
     def test_requirement_1_fewest_trucks(self):
         for capacity, lengths in many_inputs():
@@ -41,6 +48,15 @@ class RequirementTest(unittest.TestCase):
             for heuristic in HEURISTICS:
                 self.assertLessEqual(fewest, heuristic(capacity, lengths)[0], where)
             self.assertEqual(fewest, minimal_assignment(capacity, lengths)[0], where)
+
+    def test_requirement_2_every_threshold_bound_is_at_most_the_fewest_trucks(self):
+        for capacity, lengths in many_inputs():
+            bounds = []
+            for threshold in range(capacity // 2 + 1):
+                bounds += threshold_bound(capacity, threshold, lengths)
+            self.assertLessEqual(max(bounds), fewest_trucks(capacity, lengths), (capacity, lengths))
+            self.assertGreaterEqual(min(bounds), 0, (capacity, lengths))
+            self.assertEqual(lower_bounds(capacity, lengths)[1], max(bounds), (capacity, lengths))
 
     def test_requirement_3_first_fit_decreasing_against_the_fewest_trucks(self):
         for capacity, lengths in many_inputs():
@@ -62,6 +78,7 @@ class RequirementTest(unittest.TestCase):
                 self.assertEqual(len(assignment), len(lengths), where)
                 self.assertEqual(trucks, number_of_trucks(assignment), where)
                 self.assertTrue(is_feasible_assignment(capacity, lengths, assignment), where)
+                self.assertEqual(is_feasible(capacity, lengths, assignment), [1], where)
 
     def test_requirement_5_a_greater_capacity_never_needs_more_trucks(self):
         # Every 30th of the long inputs: each is asked with up to 100 capacities.

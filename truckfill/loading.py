@@ -3,8 +3,10 @@
 MAX_CAPACITY = 100
 MAX_LENGTH = 100
 MAX_PALLETS = 7
+MAX_TRUCK = 99
 
 NO_ERROR = 0
+THRESHOLD_TOO_LARGE = -2
 OUT_OF_RANGE = -22
 TOO_LONG = -33
 
@@ -44,6 +46,26 @@ def lower_bounds(capacity, lengths):
     return [trucks_for_length(sum(lengths), capacity), max(bounds)]
 
 
+def threshold_bound(capacity, threshold, lengths):
+    """Answer the bound on the number of trucks at this threshold, or an error code alone."""
+    error = loading_error(capacity, lengths)
+    if error != NO_ERROR:
+        return [error]
+    if 2 * threshold > capacity:
+        return [THRESHOLD_TOO_LARGE]
+    return [bound_at_threshold(capacity, threshold, lengths)]
+
+
+def is_feasible(capacity, lengths, assignment):
+    """Answer 1 if no truck is loaded above its capacity, 0 if one is, or an error code alone."""
+    error = loading_error(capacity, lengths)
+    if error != NO_ERROR:
+        return [error]
+    if not assignment_in_range(assignment, len(lengths)):
+        return [OUT_OF_RANGE]
+    return [1 if max(truck_loads(lengths, assignment)) <= capacity else 0]
+
+
 def loading_error(capacity, lengths):
     """Answer the code of the first error that is due, or NO_ERROR."""
     if not capacity_in_range(capacity) or not lengths_in_range(lengths):
@@ -65,6 +87,16 @@ def lengths_in_range(lengths):
         return False
     for length in lengths:
         if length < 1 or length > MAX_LENGTH:
+            return False
+    return True
+
+
+def assignment_in_range(assignment, pallets):
+    """Tell whether each of so many pallets has a truck that may be named."""
+    if len(assignment) != pallets:
+        return False
+    for truck in assignment:
+        if truck > MAX_TRUCK:
             return False
     return True
 
@@ -113,6 +145,14 @@ def loads_with_pallet(loads, truck, length):
         fuller.append(0)
     fuller[truck] = fuller[truck] + length
     return fuller
+
+
+def truck_loads(lengths, assignment):
+    """Answer the load of each truck that may be named, also of those without pallets."""
+    loads = [0] * (MAX_TRUCK + 1)
+    for pallet, truck in enumerate(assignment):
+        loads[truck] = loads[truck] + lengths[pallet]
+    return loads
 
 
 def bound_at_threshold(capacity, threshold, lengths):
