@@ -10,6 +10,7 @@ from truckfill.loading import (
     first_fit_decreasing,
     is_feasible,
     lower_bounds,
+    min_capacity,
     minimal_assignment,
     threshold_bound,
 )
@@ -25,11 +26,22 @@ PARAMETERS = {
     lower_bounds: ["capacity", "lengths"],
     threshold_bound: ["capacity", "threshold", "lengths"],
     is_feasible: ["capacity", "lengths", "assignment"],
+    min_capacity: ["truck_limit", "lengths"],
 }
 
 
 def calls_with(capacity, lengths):
-    """Calls of every function with these: the function and its arguments, allowed ones and others."""
+    """Calls of all seven functions: the function and its arguments, allowed ones and others."""
+    yield from calls_with_capacity(capacity, lengths)
+    yield from calls_without_capacity(lengths)
+
+
+def calls_without_capacity(lengths):
+    for truck_limit in (0, 1, 2, len(lengths), GREATEST):
+        yield min_capacity, (truck_limit, lengths)
+
+
+def calls_with_capacity(capacity, lengths):
     for function in ASSIGNING + (lower_bounds,):
         yield function, (capacity, lengths)
     for threshold in (0, capacity // 2, capacity // 2 + 1, GREATEST):
@@ -149,6 +161,17 @@ def scattered_numbers():
         yield state >> 16
 
 
+def searched_min_capacities(lengths, truck_limits):
+    """Search all capacities from 1 to 100: for each limit the smallest that keeps to it, or None."""
+    enough = {}
+    for capacity in range(max(lengths, default=1), 101):
+        enough[capacity] = fewest_trucks(capacity, lengths)
+    return [
+        min((capacity for capacity in enough if enough[capacity] <= truck_limit), default=None)
+        for truck_limit in truck_limits
+    ]
+
+
 def short_inputs():
     """Every input with a capacity of at most 5 and at most 4 pallets, each of which fits."""
     for capacity in range(1, 6):
@@ -169,6 +192,13 @@ def long_inputs():
 def many_inputs():
     yield from short_inputs()
     yield from long_inputs()
+
+
+def many_lengths():
+    """The lengths of the short inputs, each once, and those of every third of the long inputs."""
+    once = dict.fromkeys(tuple(lengths) for capacity, lengths in short_inputs())
+    yield from [list(lengths) for lengths in once]
+    yield from [lengths for capacity, lengths in list(long_inputs())[::3]]
 
 
 class WatchedList(list):

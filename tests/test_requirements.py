@@ -18,6 +18,7 @@ from truckfill.loading import (
     first_fit_decreasing,
     is_feasible,
     lower_bounds,
+    min_capacity,
     minimal_assignment,
     threshold_bound,
 )
@@ -81,13 +82,22 @@ class RequirementTest(unittest.TestCase):
                 self.assertEqual(is_feasible(capacity, lengths, assignment), [1], where)
 
     def test_requirement_5_a_greater_capacity_never_needs_more_trucks(self):
-        # Every 30th of the long inputs: each is asked with up to 100 capacities.
-        for capacity, lengths in list(short_inputs()) + list(long_inputs())[::30]:
+        # Every 7th of the long inputs: each is asked with up to 100 capacities.
+        for capacity, lengths in list(short_inputs()) + list(long_inputs())[::7]:
             fewest = minimal_assignment(capacity, lengths)[0]
             for greater in range(capacity + 1, min(100, sum(lengths) + 1) + 1):
                 trucks = minimal_assignment(greater, lengths)[0]
                 self.assertLessEqual(trucks, fewest, (greater, lengths))
                 fewest = trucks
+
+    def test_requirement_5_every_capacity_from_the_smallest_on_is_enough(self):
+        for capacity, lengths in list(short_inputs()) + list(long_inputs())[::7]:
+            for truck_limit in range(1, len(lengths) + 1):
+                smallest = min_capacity(truck_limit, lengths)[0]
+                if smallest != -33:
+                    for greater in {smallest, smallest + 1, (smallest + 100) // 2, 100} & set(range(101)):
+                        trucks = minimal_assignment(greater, lengths)[0]
+                        self.assertIn(trucks, range(truck_limit + 1), (greater, lengths))
 
 
 if __name__ == "__main__":

@@ -1,5 +1,6 @@
-"""Loadings of pallets onto trucks of equal length, and lower bounds on the number of trucks."""
+"""Loadings of pallets onto trucks of equal length: heuristics, fewest trucks, bounds, smallest capacity."""
 
+MIN_CAPACITY = 1
 MAX_CAPACITY = 100
 MAX_LENGTH = 100
 MAX_PALLETS = 7
@@ -9,6 +10,7 @@ NO_ERROR = 0
 THRESHOLD_TOO_LARGE = -2
 OUT_OF_RANGE = -22
 TOO_LONG = -33
+NO_SUCH_CAPACITY = -33
 
 
 def first_fit(capacity, lengths):
@@ -66,6 +68,16 @@ def is_feasible(capacity, lengths, assignment):
     return [1 if max(truck_loads(lengths, assignment)) <= capacity else 0]
 
 
+def min_capacity(truck_limit, lengths):
+    """Answer the smallest capacity with which so many trucks are enough, or an error code alone."""
+    if not lengths_in_range(lengths):
+        return [OUT_OF_RANGE]
+    loadings = feasible_loadings(MAX_CAPACITY, lengths)
+    # The fullest truck of a loading tells the smallest capacity that it needs.
+    capacities = [max(loads, default=MIN_CAPACITY) for loads, assignment in loadings if len(loads) <= truck_limit]
+    return [min(capacities, default=NO_SUCH_CAPACITY)]
+
+
 def loading_error(capacity, lengths):
     """Answer the code of the first error that is due, or NO_ERROR."""
     if not capacity_in_range(capacity) or not lengths_in_range(lengths):
@@ -78,7 +90,7 @@ def loading_error(capacity, lengths):
 
 def capacity_in_range(capacity):
     """Tell whether a truck may have this length."""
-    return capacity >= 1 and capacity <= MAX_CAPACITY
+    return capacity >= MIN_CAPACITY and capacity <= MAX_CAPACITY
 
 
 def lengths_in_range(lengths):
